@@ -143,6 +143,14 @@ func isSection(p Plan, section int) bool {
 	return section >= 0 && section < p.Sections
 }
 
+func isSwitch(p Plan, point int) bool {
+	return point >= 0 && point < len(p.Switches)
+}
+
+func isWay(p Plan, way int) bool {
+	return way >= 0 && way < len(p.Ways)
+}
+
 func wayOk(p Plan, w Way) bool {
 	on, onOk := setOf(p, w.Sections)
 	over, overOk := setOf(p, w.Over)
@@ -172,7 +180,7 @@ func switchesOk(p Plan, w Way, on sectionSet) bool {
 }
 
 func lieOk(p Plan, l Lie) bool {
-	return l.Switch >= 0 && l.Switch < len(p.Switches) && (l.Lie == 1 || l.Lie == 2)
+	return isSwitch(p, l.Switch) && (l.Lie == 1 || l.Lie == 2)
 }
 
 const wordBits = 32

@@ -94,10 +94,15 @@ func drawnPlan(r *rand.Rand) impl.Plan {
 	for range r.IntN(41) {
 		p.Switches = append(p.Switches, r.IntN(p.Sections))
 	}
-	ways := r.IntN(8)
+	addWays(r, &p, r.IntN(8))
+	return p
+}
+
+// addWays deals out so many ways; those with a section in common exclude each other.
+func addWays(r *rand.Rand, p *impl.Plan, ways int) {
 	p.Bars = squareOf(ways, false)
 	for range ways {
-		p.Ways = append(p.Ways, drawnWay(r, p))
+		p.Ways = append(p.Ways, drawnWay(r, *p))
 	}
 	for i := range ways {
 		for k := range i + 1 {
@@ -106,7 +111,6 @@ func drawnPlan(r *rand.Rand) impl.Plan {
 			p.Bars[k][i] = p.Bars[i][k]
 		}
 	}
-	return p
 }
 
 func drawnWay(r *rand.Rand, p impl.Plan) impl.Way {
