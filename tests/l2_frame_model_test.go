@@ -469,14 +469,5 @@ func testAsked(t *testing.T, r *rand.Rand, p impl.Plan, f impl.Frame) {
 	if got, want := impl.Do(p, f, e), modelDo(p, f, e); !sameDone(got, want) {
 		t.Fatalf("%v: got %d %s, want %d %s, behind %s of %+v", e, got.Code, picture(got.Frame), want.Code, picture(want.Frame), picture(f), p)
 	}
-	for way := -1; way <= len(p.Ways); way++ {
-		if got, want := impl.WhyNot(p, f, way), modelWhyNot(p, f, way); got != want {
-			t.Fatalf("WhyNot of %d: got %d, want %d in %s of %+v", way, got, want, picture(f), p)
-		}
-	}
-	for point := -1; point <= len(p.Switches); point++ {
-		if got, want := impl.PointLock(p, f, point), modelPointLock(p, f, point); !slices.Equal(got, want) {
-			t.Fatalf("PointLock of %d: got %v, want %v in %s of %+v", point, got, want, picture(f), p)
-		}
-	}
+	testLocks(t, p, f)
 }

@@ -22,8 +22,13 @@ type stepTold struct {
 // overRuns hands every step of many drawn runs to a check.
 func overRuns(t *testing.T, seed uint64, check func(s stepTold)) {
 	t.Helper()
+	overSoManyRuns(t, seed, 2000, check)
+}
+
+func overSoManyRuns(t *testing.T, seed uint64, runs int, check func(s stepTold)) {
+	t.Helper()
 	r := rand.New(rand.NewPCG(seed, 2026))
-	for run := range 2000 {
+	for run := range runs {
 		p := drawnYard(r)
 		length := 100
 		if run%100 == 0 {
